@@ -1,0 +1,1 @@
+"""Groups that cancel: which runs wait, which run, and which give way to newer ones."""
