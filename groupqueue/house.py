@@ -7,10 +7,12 @@ PASSED = 3
 FAILED = 4
 PUSHED_OUT = 5
 STOPPED = 6
+CALLED_OFF = 7
 
 WRONG_NUMBER = -1
 NOT_THERE = -2
 TOO_LATE = -3
+TOLD_ALREADY = -4
 WRONG_STAND = -5
 FULL = -7
 
@@ -53,6 +55,10 @@ def in_range(number, lowest, highest):
 
 def is_here(run):
     return run.stands <= TOLD_TO_STOP
+
+
+def here_of_group(runs, group_number):
+    return [run for run in runs if is_here(run) and group_number in run.belongs_to]
 
 
 def runs_told(runs):
@@ -109,12 +115,49 @@ class House:
             return [WRONG_STAND]
         return [run.stands] + runs_told(self.begin_to_run())
 
+    def cancel(self, number):
+        if number >= len(self.runs):
+            return [NOT_THERE]
+        run = self.runs[number]
+        if run.stands == TOLD_TO_STOP:
+            return [TOLD_ALREADY]
+        if not is_here(run):
+            return [WRONG_STAND]
+        run.stands = CALLED_OFF if run.stands == WAITS else TOLD_TO_STOP
+        # Behind one that is told to stop none begins: it is here still and holds back as before.
+        return [run.stands] + runs_told(self.begin_to_run())
+
+    def stand(self):
+        return [len(self.runs)] + [run.stands for run in self.runs]
+
+    def why(self, number):
+        if number >= len(self.runs):
+            return [NOT_THERE]
+        run = self.runs[number]
+        if run.stands != WAITS:
+            return [WRONG_STAND]
+        holding = self.groups_holding_back(run)
+        told = [len(holding)]
+        for group_number in holding:
+            told.append(group_number)
+            told.extend(runs_told(self.older_here(run, group_number)))
+        return told
+
+    def members(self, group_number):
+        if group_number >= len(self.groups):
+            return [NOT_THERE]
+        here = here_of_group(self.runs, group_number)
+        told = [len(here)]
+        for run in here:
+            told.extend([run.number, run.stands])
+        return told
+
     def is_full(self):
         here = [run for run in self.runs if is_here(run)]
         return len(here) >= HERE_LIMIT or len(self.runs) >= RUNS_LIMIT
 
-    def runs_that_stand(self, stand):
-        return [run for run in self.runs if run.stands == stand]
+    def runs_that_stand(self, where):
+        return [run for run in self.runs if run.stands == where]
 
     def push_out(self):
         # All are found before the first one goes, since they go at the same time.
@@ -125,7 +168,7 @@ class House:
 
     def begin_to_run(self):
         # One that begins is here before and after, so none of these holds back another by beginning.
-        free = [run for run in self.runs_that_stand(WAITS) if not self.is_held_back(run)]
+        free = [run for run in self.runs_that_stand(WAITS) if len(self.groups_holding_back(run)) == 0]
         for run in free:
             run.stands = RUNS
         return free
@@ -139,8 +182,8 @@ class House:
     def is_outdated(self, run):
         return all([self.newer_waiting(run, number) >= self.groups[number].keep for number in run.belongs_to])
 
-    def is_held_back(self, run):
-        return any([len(self.older_here(run, number)) >= self.groups[number].most for number in run.belongs_to])
+    def groups_holding_back(self, run):
+        return [number for number in run.belongs_to if len(self.older_here(run, number)) >= self.groups[number].most]
 
     def is_cut(self, run):
         return all([self.groups[number].cuts == 1 and self.newer_waiting(run, number) > 0
@@ -151,5 +194,4 @@ class House:
         return len([other for other in newer if other.stands == WAITS and group_number in other.belongs_to])
 
     def older_here(self, run, group_number):
-        older = self.runs[:run.number]
-        return [other for other in older if is_here(other) and group_number in other.belongs_to]
+        return here_of_group(self.runs[:run.number], group_number)

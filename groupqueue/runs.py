@@ -6,8 +6,11 @@ BEGINS = 0
 GROUP = 1
 SUBMIT = 2
 ENDED = 3
+CANCEL = 4
+STAND = 5
+WHY = 6
 
-NUMBERS_BEHIND = (1, 4, 1, 2)
+NUMBERS_BEHIND = (1, 4, 1, 2, 1, 0, 1, 1)
 
 
 def answer(house, call, numbers):
@@ -17,7 +20,16 @@ def answer(house, call, numbers):
         return house.group(numbers[0], numbers[1], numbers[2], numbers[3])
     if call == SUBMIT:
         return house.submit(numbers[0])
-    return house.ended(numbers[0], numbers[1])
+    if call == ENDED:
+        return house.ended(numbers[0], numbers[1])
+    if call == CANCEL:
+        return house.cancel(numbers[0])
+    if call == STAND:
+        return house.stand()
+    if call == WHY:
+        return house.why(numbers[0])
+    # Only members, 7, is left: no other number of a call is handed in.
+    return house.members(numbers[0])
 
 
 def answers(calls):

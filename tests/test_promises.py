@@ -1,134 +1,104 @@
-"""Many made-up lines, held against the document's words and its four promises at each step."""
+"""Many lines of all eight calls, held against the document's words and its four promises at each step."""
 
+import itertools
 import random
 import unittest
 
-from tests.lines import LARGEST, ask, begins, ended, group, has_ended, submit_set, submitted
+from tests.lines import (LARGEST, ask, begins, cancel, ended, group, last, look_round, members, stand, submit,
+                         submit_set, why)
+from tests.words import HERE, RUNS, TOLD, WAITS, Words
 
-WAITS, RUNS, TOLD = 0, 1, 2
-HERE = (WAITS, RUNS, TOLD)
+# How often each call is made up: s submit, e ended, c cancel, w why, m members, t stand, g group, b begins.
+MIXED = "sssssssseeeccwwmtg"
+BUSY = "ssssssssssssecwm"
+ANY = "ssssecwmtgb"
 
-
-class Words:
-    """The words of the document, told again with dicts and number by number."""
-
-    def __init__(self):
-        self.start(1)
-
-    def start(self, how_many):
-        self.groups = {number: (1, 1, 0) for number in range(how_many)}
-        self.sets = {}
-        self.stands = {}
-
-    def of(self, number, stands):
-        return [run for run in self.sets if number in self.sets[run] and self.stands[run] in stands]
-
-    def begin(self):
-        begun = []
-        for run in self.sets:
-            if self.stands[run] == WAITS and all(
-                    sum(older < run for older in self.of(number, HERE)) < self.groups[number][0]
-                    for number in self.sets[run]):
-                begun.append(run)
-        self.stands.update(dict.fromkeys(begun, RUNS))
-        return begun
-
-    def newer_wait(self, run, number):
-        return sum(newer > run for newer in self.of(number, [WAITS]))
-
-    def push(self):
-        gone = []
-        for run in self.sets:
-            if self.stands[run] == WAITS and not [
-                    number for number in self.sets[run] if self.newer_wait(run, number) < self.groups[number][1]]:
-                gone.append(run)
-        self.stands.update(dict.fromkeys(gone, 5))
-        return gone
-
-    def stop(self, ran):
-        told = []
-        for run in ran:
-            if not [number for number in self.sets[run]
-                    if self.groups[number][2] == 0 or self.newer_wait(run, number) == 0]:
-                told.append(run)
-        self.stands.update(dict.fromkeys(told, TOLD))
-        return told
-
-    def answer(self, call):
-        return (self.begins, self.group, self.submit, self.ended)[call[0]](*call[1:])
-
-    def begins(self, how_many):
-        if how_many not in range(1, 9):
-            return [-1]
-        self.start(how_many)
-        return [0]
-
-    def group(self, number, most, keep, cuts):
-        if number not in self.groups:
-            return [-2]
-        if self.sets:
-            return [-3]
-        if most not in range(1, 5) or keep not in range(1, 9) or cuts not in (0, 1):
-            return [-1]
-        self.groups[number] = (most, keep, cuts)
-        return [0]
-
-    def submit(self, group_set):
-        numbers = {number for number in range(32) if group_set & 1 << number}
-        if not numbers or not numbers <= set(self.groups):
-            return [-1]
-        if sum(stands in HERE for stands in self.stands.values()) == 20 or len(self.sets) == 50:
-            return [-7]
-        ran = [run for run in self.sets if self.stands[run] == RUNS]
-        run = len(self.sets)
-        self.sets[run], self.stands[run] = numbers, WAITS
-        gone, begun = self.push(), self.begin()
-        return submitted(run, gone, begun, self.stop(ran))
-
-    def ended(self, run, passed):
-        if run not in self.sets:
-            return [-2]
-        if self.stands[run] not in (RUNS, TOLD):
-            return [-5]
-        self.stands[run] = 6 if self.stands[run] == TOLD else 3 if passed else 4
-        return has_ended(self.stands[run], self.begin())
+# Each refusal that the document names: the call's number and the refusal.
+REFUSALS = {(0, -1), (1, -1), (1, -2), (1, -3), (2, -1), (2, -7), (3, -2), (3, -5), (4, -2), (4, -4), (4, -5),
+            (6, -2), (6, -5), (7, -2)}
 
 
-def made_up_call(rolls, how_many):
-    sort = rolls.choice("ssssssseeeewwwgb")
+def picked_run(rolls, words):
+    return rolls.choice((*words.sets, *words.sets, len(words.sets), LARGEST))
+
+
+def picked_group(rolls, words):
+    return rolls.choice((*words.groups, *words.groups, len(words.groups), LARGEST))
+
+
+def picked_set(rolls, words):
+    if rolls.random() < 0.05:
+        return rolls.choice((0, 1 << len(words.groups), 1 + (1 << len(words.groups)), LARGEST))
+    how_many = rolls.randint(1, rolls.choice((1, 3, len(words.groups))))
+    return sum(1 << number for number in rolls.sample(sorted(words.groups), min(how_many, len(words.groups))))
+
+
+def made_up_call(rolls, words, sorts):
+    sort = rolls.choice(sorts)
     if sort == "s":
-        picked = rolls.sample(range(how_many), rolls.randint(1, min(3, how_many)))
-        return submit_set(sum(1 << number for number in picked))
-    if sort in "ew":
-        return ended(rolls.randint(0, 12 if sort == "e" else 30), rolls.choice((0, 1, 2, LARGEST)))
+        return submit_set(picked_set(rolls, words))
+    if sort == "e":
+        return ended(picked_run(rolls, words), rolls.choice((0, 1, 2, LARGEST)))
+    if sort == "c":
+        return cancel(picked_run(rolls, words))
+    if sort == "w":
+        return why(rolls.choice([picked_run(rolls, words), *words.at(WAITS)]))
+    if sort == "m":
+        return members(picked_group(rolls, words))
+    if sort == "t":
+        return stand()
     if sort == "g":
-        return group(rolls.randint(0, 8), rolls.randint(0, 5), rolls.randint(0, 9), rolls.randint(0, 2))
-    return rolls.choice((begins(0), begins(9), submit_set(0), submit_set(LARGEST), submit_set(1 << how_many)))
+        return group(picked_group(rolls, words), rolls.randint(0, 5), rolls.randint(0, 9), rolls.randint(0, 2))
+    return begins(rolls.choice((0, 1, 2, 3, 8, 9, LARGEST)))
 
 
-def made_up_line(rolls):
+def set_up(how_many, pick):
+    return [begins(how_many), *[group(number, *pick()) for number in range(how_many)]]
+
+
+def made_up_beginning(rolls):
+    """The first calls of a line, and how often each call is to come behind them."""
     how_many = rolls.randint(1, 8)
-    set_up = [group(number, rolls.randint(1, 4), rolls.randint(1, 4), rolls.randint(0, 1))
-              for number in range(how_many)]
-    line = [begins(how_many), *set_up]
-    return line + [made_up_call(rolls, how_many) for time in range(60 - len(line))]
+    return rolls.choice((
+        (set_up(how_many, lambda: (rolls.randint(1, 4), rolls.randint(1, 4), rolls.randint(0, 1))), MIXED),
+        (set_up(how_many, lambda: (rolls.choice((1, 4)), rolls.choice((1, 8)), rolls.randint(0, 1))), MIXED),
+        (set_up(how_many, lambda: (1, 8, rolls.randint(0, 1))), MIXED),
+        (set_up(how_many, lambda: (rolls.choice((1, 4)), 8, rolls.randint(0, 1))), BUSY),
+        ([], MIXED),
+        ([], ANY),
+    ))
 
 
-class Promises(unittest.TestCase):
-    def test_made_up_lines(self):
+class MadeUpLines(unittest.TestCase):
+    def test_call_by_call(self):
         rolls = random.Random(20)
-        for time in range(400):
-            line = made_up_line(rolls)
-            words = Words()
-            for call, given in zip(line, ask(*line), strict=True):
-                newest = {number: words.of(number, [WAITS])[-1:] for number in words.groups}
-                self.assertEqual(given, words.answer(call), line)
-                self.assert_promises(words, call, given, newest)
+        seen = set()
+        for time in range(900):
+            line, expected = self.made_up_line(rolls, seen)
+            self.assertEqual(ask(*line), expected, line)
+        self.assertEqual({pair for pair in seen if pair[1] < 0}, REFUSALS)
+        self.assertLessEqual({(3, 3), (3, 4), (3, 6), (4, 2), (4, 7)}, seen)
+
+    def made_up_line(self, rolls, seen):
+        first, sorts = made_up_beginning(rolls)
+        words = Words()
+        line, expected = [], []
+        while len(line) < 60:
+            call = first[len(line)] if len(line) < len(first) else made_up_call(rolls, words, sorts)
+            newest = {number: words.of(number, [WAITS])[-1:] for number in words.groups}
+            given = words.answer(call)
+            self.assert_promises(words, call, given, newest)
+            seen.add((call[0], given[0]))
+            line.append(call)
+            expected.append(given)
+        return line, expected
 
     def assert_promises(self, words, call, given, newest):
         here = [run for run in words.sets if words.stands[run] in HERE]
         for number, (most, keep, cuts) in words.groups.items():
             self.assertLessEqual(len(words.of(number, (RUNS, TOLD))), most, "never more than may")
+            for run in words.of(number, (RUNS, TOLD)):
+                self.assertLess(sum(older < run for older in words.of(number, HERE)), most, "nobody overtaken")
         if here:
             self.assertNotEqual(words.stands[here[0]], WAITS, "nothing stands still")
         if call[0] == 2 and given[0] >= 0:
@@ -136,6 +106,42 @@ class Promises(unittest.TestCase):
             for number, runs in newest.items():
                 if number not in words.sets[given[0]]:
                     self.assertFalse(set(runs) & set(gone), "the newest never lost")
+
+
+class EveryShortLine(unittest.TestCase):
+    """All lines of four calls behind a first submit, in houses of two groups, and all that is seen then."""
+
+    CALLS = (submit(0), submit(1), submit(0, 1), ended(0), ended(1, 0), cancel(0), cancel(1), cancel(2))
+    HOUSES = (
+        [begins(2)],
+        [begins(2), group(0, 1, 8, 1), group(1, 1, 8, 1)],
+        [begins(2), group(0, 1, 1, 1), group(1, 4, 1, 1)],
+        [begins(2), group(0, 1, 2, 0), group(1, 2, 8, 1)],
+    )
+
+    def test_all_of_them(self):
+        behind = look_round(6, 2)
+        for house in self.HOUSES:
+            for calls in itertools.product(self.CALLS, repeat=4):
+                line = [*house, submit(0, 1), *calls, *behind]
+                words = Words()
+                self.assertEqual(ask(*line), [words.answer(call) for call in line], line)
+
+
+class NothingStandsStill(unittest.TestCase):
+    def test_from_each_run_that_waits_why_leads_to_one_that_does_not(self):
+        rolls = random.Random(21)
+        for time in range(60):
+            how_many = rolls.randint(1, 5)
+            line = [begins(how_many), *[submit_set(rolls.randint(1, (1 << how_many) - 1)) for run in range(12)]]
+            stands = last(*line, stand())[1:]
+            for run in [run for run in range(12) if stands[run] == WAITS]:
+                while stands[run] == WAITS:
+                    given = last(*line, why(run))
+                    self.assertGreater(given[0], 0)
+                    self.assertLess(given[3], run)
+                    run = given[3]
+                self.assertIn(stands[run], (RUNS, TOLD))
 
 
 if __name__ == "__main__":

@@ -2,11 +2,8 @@
 
 import unittest
 
-from tests.lines import LARGEST, ask, begins, ended, group, has_ended, last, submit, submit_set, submitted
-
-# Five groups of four that run: 20 runs are here behind these.
-TWENTY_HERE = [begins(6), *[group(number, most=4) for number in range(5)],
-               *[submit(number) for number in range(5) for time in range(4)]]
+from tests.lines import (LARGEST, TWENTY_HERE, ask, begins, ended, group, last, stands_then, submit, submit_set,
+                         submitted)
 
 
 class SetRefused(unittest.TestCase):
@@ -28,7 +25,7 @@ class SetRefused(unittest.TestCase):
     def test_all_is_as_it_was(self):
         for group_set in (0, 2, 3, LARGEST):
             parts = ask(submit(0), submit(0), submit_set(group_set), submit(0), ended(0))
-            self.assertEqual(parts[2:], [[-1], submitted(2, pushed_out=[1]), has_ended(3, begun=[2])])
+            self.assertEqual(parts[2:], [[-1], submitted(2, pushed_out=[1]), stands_then(3, begun=[2])])
 
 
 class Full(unittest.TestCase):
@@ -52,7 +49,7 @@ class Full(unittest.TestCase):
 
     def test_one_that_ended_makes_room(self):
         parts = ask(*TWENTY_HERE, submit(5), ended(7, 0), submit(5), submit(5))
-        self.assertEqual(parts[-4:], [[-7], has_ended(4), submitted(20, begun=[20]), [-7]])
+        self.assertEqual(parts[-4:], [[-7], stands_then(4), submitted(20, begun=[20]), [-7]])
 
     def test_fifty_in_all_with_fewer_here(self):
         parts = ask(*[submit(0)] * 51)
@@ -61,7 +58,7 @@ class Full(unittest.TestCase):
     def test_fifty_in_all_though_the_others_are_over(self):
         # Only two are here at the end, and both may end: there are 50 in all still.
         parts = ask(*[submit(0)] * 50, ended(0), ended(49), submit(0))
-        self.assertEqual(parts[-3:], [has_ended(3, begun=[49]), has_ended(3), [-7]])
+        self.assertEqual(parts[-3:], [stands_then(3, begun=[49]), stands_then(3), [-7]])
 
     def test_begins_makes_room(self):
         self.assertEqual(last(*[submit(0)] * 50, begins(1), submit(0)), submitted(0, begun=[0]))
@@ -83,9 +80,9 @@ class Full(unittest.TestCase):
 
     def test_all_is_as_it_was(self):
         parts = ask(*TWENTY_HERE, submit(0), ended(0), submit(0), ended(20))
-        self.assertEqual(parts[-4:], [[-7], has_ended(3), submitted(20, begun=[20]), has_ended(3)])
+        self.assertEqual(parts[-4:], [[-7], stands_then(3), submitted(20, begun=[20]), stands_then(3)])
         parts = ask(*[submit(0)] * 50, submit(0), ended(50), ended(0))
-        self.assertEqual(parts[-3:], [[-7], [-2], has_ended(3, begun=[49])])
+        self.assertEqual(parts[-3:], [[-7], [-2], stands_then(3, begun=[49])])
 
 
 class HeldBack(unittest.TestCase):
@@ -119,7 +116,7 @@ class HeldBack(unittest.TestCase):
 
     def test_one_told_to_stop_holds_back_until_it_has(self):
         parts = ask(group(0, keep=2, cuts=1), submit(0), submit(0), submit(0), ended(0))[1:]
-        self.assertEqual(parts, [submitted(0, begun=[0]), submitted(1, told=[0]), submitted(2), has_ended(6, [1])])
+        self.assertEqual(parts, [submitted(0, begun=[0]), submitted(1, told=[0]), submitted(2), stands_then(6, [1])])
 
     def test_those_over_do_not_hold_back(self):
         for passed in (0, 1):
@@ -180,11 +177,11 @@ class PushedOut(unittest.TestCase):
 
     def test_one_that_runs_is_not_pushed_out(self):
         parts = ask(submit(0), submit(0), submit(0), ended(0))
-        self.assertEqual(parts[1:], [submitted(1), submitted(2, pushed_out=[1]), has_ended(3, begun=[2])])
+        self.assertEqual(parts[1:], [submitted(1), submitted(2, pushed_out=[1]), stands_then(3, begun=[2])])
 
     def test_one_told_to_stop_is_not_pushed_out(self):
         parts = ask(group(0, cuts=1), submit(0), submit(0), submit(0), ended(0))
-        self.assertEqual(parts[-2:], [submitted(2, pushed_out=[1]), has_ended(6, begun=[2])])
+        self.assertEqual(parts[-2:], [submitted(2, pushed_out=[1]), stands_then(6, begun=[2])])
 
 
 class ToldToStop(unittest.TestCase):
@@ -233,7 +230,7 @@ class ToldToStop(unittest.TestCase):
     def test_told_as_any_run_comes(self):
         # Run 1 began behind run 0, when none came; run 2 waits behind it already.
         parts = ask(begins(2), group(0, keep=8, cuts=1), submit(0), submit(0), submit(0), ended(0), submit(1))
-        self.assertEqual(parts[-2:], [has_ended(6, begun=[1]), submitted(3, begun=[3], told=[1])])
+        self.assertEqual(parts[-2:], [stands_then(6, begun=[1]), submitted(3, begun=[3], told=[1])])
 
     def test_newer_ones_pushed_out_leave_a_newer_one(self):
         parts = ask(begins(2), group(0, cuts=1), group(1, cuts=1), submit(0, 1), submit(0), submit(0), submit(1))
